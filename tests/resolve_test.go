@@ -296,23 +296,59 @@ func TestDrawnClashes(t *testing.T) {
 	}
 }
 
+// authByHand goes through the Items: those whose Key counts, and whose event the list has.
+func authByHand(list []impl.Event, s []impl.Item, e impl.Event) (auth []int) {
+	for key, id := range firstIds(s) {
+		counts := key == 1 || key == 2 || key == 10+e.Sender || e.Kind == impl.KindMember && key == 10+e.User
+		if counts && slices.ContainsFunc(list, func(known impl.Event) bool { return known.Id == id }) {
+			auth = append(auth, id)
+		}
+	}
+	slices.Sort(auth)
+	return slices.Compact(auth)
+}
+
 func wantAuth(t *testing.T, list []impl.Event, s []impl.Item, e impl.Event, want ...int) {
 	t.Helper()
+	if got := authByHand(list, s, e); !slices.Equal(got, want) {
+		t.Fatalf("the test is wrong: of %s and %s it says %v, and not %v", shownState(s), shownEvent(e), want, got)
+	}
 	if got := impl.AuthOf(list, s, e); !slices.Equal(got, want) {
-		t.Errorf("AuthOf(.., %s, %s) = %v; want %v", shownState(s), shownEvent(e), got, want)
+		var ids []int
+		for _, known := range list {
+			ids = append(ids, known.Id)
+		}
+		t.Errorf("AuthOf(the events %v, %s, %s) = %v; want %v", ids, shownState(s), shownEvent(e), got, want)
 	}
 }
 
-func TestAuthOfEachKind(t *testing.T) {
-	// The Id of each Key is another one, and they do not ascend with the Keys.
-	s := []impl.Item{{Key: 1, Id: 40}, {Key: 2, Id: 10}, {Key: 3, Id: 30}, {Key: 11, Id: 20}, {Key: 12, Id: 50}, {Key: 13, Id: 5}, {Key: 14, Id: 60}, {Key: 15, Id: 1}}
-	ids := map[int]int{1: 20, 2: 50, 3: 5, 4: 60, 5: 1}
-	var known []impl.Event
-	for _, item := range s {
-		known = append(known, impl.Event{Id: item.Id, Kind: impl.KindSay, Sender: 1, Prev: []int{7}})
+// eventsOf are events of these Ids, of no matter what Kind.
+func eventsOf(ids ...int) (list []impl.Event) {
+	for at, id := range ids {
+		list = append(list, impl.Event{Id: id, Kind: 1 + at%5, Sender: 1, Prev: []int{7}})
 	}
-	// Which events the list has does not count: the state tells.
-	for _, list := range [][]impl.Event{nil, {}, known, known[:3], known[4:], strayEvents()} {
+	return list
+}
+
+// toldBy are events of all Ids of a state.
+func toldBy(s []impl.Item) []impl.Event {
+	var ids []int
+	for _, item := range s {
+		ids = append(ids, item.Id)
+	}
+	return eventsOf(ids...)
+}
+
+// The Id of each Key is another one, and they do not ascend with the Keys.
+var mixedState = []impl.Item{{Key: 1, Id: 40}, {Key: 2, Id: 10}, {Key: 3, Id: 30}, {Key: 11, Id: 20}, {Key: 12, Id: 50}, {Key: 13, Id: 5}, {Key: 14, Id: 60}, {Key: 15, Id: 1}}
+
+func TestAuthOfEachKind(t *testing.T) {
+	s := mixedState
+	ids := map[int]int{1: 20, 2: 50, 3: 5, 4: 60, 5: 1}
+	known := toldBy(s)
+	reversed := slices.Clone(known)
+	slices.Reverse(reversed)
+	for _, list := range [][]impl.Event{known, reversed, slices.Concat(strayEvents(), known), slices.Concat(known, reversed, strayEvents())} {
 		for sender := 1; sender <= 5; sender++ {
 			want := slices.Sorted(slices.Values([]int{40, 10, ids[sender]}))
 			for _, e := range []impl.Event{create(sender), power(sender, 0, 0, 0, 0, 0), name(sender), say(sender)} {
@@ -334,8 +370,71 @@ func TestAuthOfEachKind(t *testing.T) {
 	}
 }
 
+// everyKind are events of all Kinds by one user, of KindMember about each.
+func everyKind(sender int) []impl.Event {
+	list := []impl.Event{create(sender), power(sender, 0, 0, 0, 0, 0), name(sender), say(sender)}
+	for user := 1; user <= 5; user++ {
+		list = append(list, member(sender, user, user%4))
+	}
+	return list
+}
+
+// Some of the events of a state are in the list, some are not: those in the list alone count.
+func TestAuthOfSomeInList(t *testing.T) {
+	s := mixedState
+	for _, c := range []struct {
+		e    impl.Event
+		ids  []int
+		want []int
+	}{
+		{say(1), []int{40, 10, 20}, []int{10, 20, 40}}, {say(1), []int{10, 20}, []int{10, 20}}, {say(1), []int{40, 20}, []int{20, 40}}, {say(1), []int{10, 40}, []int{10, 40}},
+		{say(1), []int{40}, []int{40}}, {say(1), []int{10}, []int{10}}, {say(1), []int{20}, []int{20}},
+		// Those of other Keys do not count, though they are in the list.
+		{say(1), []int{30, 50, 5, 60, 1}, nil}, {say(1), []int{30, 50, 5, 60, 1, 20}, []int{20}}, {name(5), []int{1, 30}, []int{1}},
+		{member(2, 4, impl.Left), []int{60}, []int{60}}, {member(2, 4, impl.Left), []int{50}, []int{50}}, {member(2, 4, impl.Left), []int{60, 50}, []int{50, 60}}, {member(2, 4, impl.Left), []int{60, 40, 20}, []int{40, 60}},
+		{member(3, 3, impl.Joined), []int{5, 1}, []int{5}}, {member(3, 3, impl.Joined), []int{10, 1}, []int{10}},
+		// Ids near those of the state, and that of the event itself.
+		{say(1), []int{39, 41, 9, 11, 19, 21, 0, -40, -10, -20}, nil}, {say(1), []int{9, 41, 20}, []int{20}},
+	} {
+		wantAuth(t, eventsOf(c.ids...), s, c.e, c.want...)
+		wantAuth(t, slices.Concat(eventsOf(c.ids...), strayEvents(), eventsOf(c.ids...)), s, c.e, c.want...)
+	}
+	// All choices of events.
+	for choice := range 256 {
+		var ids []int
+		for bit, item := range s {
+			if choice>>bit&1 == 1 {
+				ids = append(ids, item.Id)
+			}
+		}
+		for sender := 1; sender <= 5; sender++ {
+			for _, e := range everyKind(sender) {
+				wantAuth(t, eventsOf(ids...), s, e, authByHand(eventsOf(ids...), s, e)...)
+			}
+		}
+	}
+}
+
+// None of the events of a state is in the list: nothing is told.
+func TestAuthOfNoneInList(t *testing.T) {
+	for sender := 1; sender <= 5; sender++ {
+		for _, e := range everyKind(sender) {
+			for _, list := range [][]impl.Event{nil, {}, strayEvents(), {e}, eventsOf(2, 3, 7, 8, 41), make([]impl.Event, 3)} {
+				for _, s := range [][]impl.Item{mixedState, itemsOf(rightKeys...), nil, {}} {
+					wantAuth(t, list, s, e)
+				}
+			}
+		}
+	}
+	// An event is not there for being the one that is asked about.
+	s := []impl.Item{{Key: 1, Id: 9}, {Key: 11, Id: 9}}
+	wantAuth(t, nil, s, member(1, 1, impl.Joined))
+	wantAuth(t, []impl.Event{member(1, 1, impl.Joined)}, s, member(1, 1, impl.Joined), 9)
+}
+
 func TestAuthOfWhatIsThere(t *testing.T) {
 	s := itemsOf(rightKeys...)
+	list := toldBy(s)
 	for _, state := range rightStates() {
 		for _, e := range []impl.Event{member(1, 2, impl.Invited), member(4, 4, impl.Joined), member(5, 1, impl.Banned), name(3), create(2)} {
 			var want []int
@@ -345,22 +444,23 @@ func TestAuthOfWhatIsThere(t *testing.T) {
 					want = append(want, item.Id)
 				}
 			}
-			wantAuth(t, nil, state, e, want...)
+			wantAuth(t, list, state, e, want...)
+			wantAuth(t, nil, state, e)
 		}
 	}
 	// Users that are none: nothing is told of them.
 	for _, user := range []int{0, 6, 7, -1, 100, math.MinInt, math.MaxInt} {
-		wantAuth(t, nil, s, member(user, 2, impl.Left), 100, 101, 104)
-		wantAuth(t, nil, s, member(2, user, impl.Left), 100, 101, 104)
-		wantAuth(t, nil, s, member(user, user, impl.Left), 100, 101)
-		wantAuth(t, nil, s, say(user), 100, 101)
+		wantAuth(t, list, s, member(user, 2, impl.Left), 100, 101, 104)
+		wantAuth(t, list, s, member(2, user, impl.Left), 100, 101, 104)
+		wantAuth(t, list, s, member(user, user, impl.Left), 100, 101)
+		wantAuth(t, list, s, say(user), 100, 101)
 	}
 	// 10 and -7 is the Key 3, whatever stands there.
-	wantAuth(t, nil, s, say(-7), 100, 101, 102)
-	wantAuth(t, nil, s, member(-9, -8, impl.Left), 100, 101)
+	wantAuth(t, list, s, say(-7), 100, 101, 102)
+	wantAuth(t, list, s, member(-9, -8, impl.Left), 100, 101)
 	// Kinds that are none.
 	for _, kind := range []int{0, 6, -1, math.MaxInt} {
-		wantAuth(t, nil, s, impl.Event{Id: 9, Kind: kind, Sender: 1, User: 2}, 100, 101, 103)
+		wantAuth(t, list, s, impl.Event{Id: 9, Kind: kind, Sender: 1, User: 2}, 100, 101, 103)
 	}
 }
 
@@ -379,7 +479,49 @@ func TestAuthOfAlikeIds(t *testing.T) {
 		{[]impl.Item{{Key: 2, Id: -4}, {Key: 1, Id: impl.MaxIndex + 1}}, []int{-4, impl.MaxIndex + 1}},
 		{append(make([]impl.Item, 3000), impl.Item{Key: 11, Id: 8}), []int{8}},
 	} {
-		wantAuth(t, nil, c.s, e, c.want...)
+		wantAuth(t, toldBy(c.s), c.s, e, c.want...)
+		wantAuth(t, nil, c.s, e)
+	}
+	// The first of several Items with one Key counts, also where the list has the event of the second alone.
+	twice := []impl.Item{{Key: 1, Id: 5}, {Key: 1, Id: 6}}
+	wantAuth(t, eventsOf(5), twice, e, 5)
+	wantAuth(t, eventsOf(6), twice, e)
+	// A Key that no Item has is not told by an event of the Id 0.
+	wantAuth(t, make([]impl.Event, 1), itemsOf(3), e)
+}
+
+func TestDrawnAuth(t *testing.T) {
+	next := draws(118)
+	count := map[string]int{}
+	for range 20000 {
+		s := slices.DeleteFunc(itemsOf(rightKeys...), func(impl.Item) bool { return next(4) == 0 })
+		for at := range s {
+			s[at].Id = 1 + next(12)
+		}
+		var list []impl.Event
+		for range next(16) {
+			e := drawnEvent(next)
+			e.Id = 1 + next(12)
+			list = append(list, e)
+		}
+		e := drawnEvent(next)
+		want := authByHand(list, s, e)
+		wantAuth(t, list, s, e, want...)
+		wantAuth(t, shuffled(next, list), s, e, want...)
+		switch all := len(authByHand(toldBy(s), s, e)); {
+		case all == 0:
+		case len(want) == 0:
+			count["none"]++
+		case len(want) < all:
+			count["some"]++
+		default:
+			count["all"]++
+		}
+	}
+	for _, what := range []string{"none", "some", "all"} {
+		if count[what] < 1000 {
+			t.Errorf("of what is drawn there is in the list: %v", count)
+		}
 	}
 }
 
