@@ -1360,20 +1360,15 @@ func commandByHand(x impl.Command) string {
 	return text
 }
 
-// foldByHand is Perform of what ReadCommand says of each entry, one behind the other.
+// foldByHand does each command that is found in an entry by trial, one behind the other.
 func foldByHand(h impl.Hall, list []impl.Entry, index int) (impl.Hall, []string) {
 	h = copyHall(h)
 	replies := make([]string, len(list))
+	right := rightHallByHand(h)
 	for at, e := range list {
-		if e.Kind != 3 {
-			continue
-		}
-		x, ok := impl.ReadCommand(e.Data)
-		if !ok {
-			continue
-		}
-		if then, reply, ok := impl.Perform(h, index+at, x); ok {
-			h, replies[at] = then, reply
+		x, ok := commandByTrial(e.Data)
+		if right && ok && e.Kind == 3 && index+at >= 1 && index+at <= 400000 {
+			h, replies[at] = performByHand(h, index+at, x)
 		}
 	}
 	return h, replies
@@ -1454,16 +1449,16 @@ func TestFold(t *testing.T) {
 			}
 		}
 	}
+	want := make([]string, len(list))
+	for _, s := range steps {
+		want[s.index-1] = s.reply
+	}
 	h, replies := holdFold(t, impl.HallNew(), list, 1)
-	if _, built := impl.ReadCommand(commandByHand(opening())); built {
-		for _, s := range steps {
-			if replies[s.index-1] != s.reply {
-				t.Errorf("Fold replies %q at %d; want %q", replies[s.index-1], s.index, s.reply)
-			}
-		}
-		if !equalHalls(h, handHall()) {
-			t.Errorf("Fold makes %s; want %s", shownHall(h), shownHall(handHall()))
-		}
+	if !slices.Equal(replies, want) {
+		t.Errorf("Fold replies %q; want %q", replies, want)
+	}
+	if !equalHalls(h, handHall()) {
+		t.Errorf("Fold makes %s; want %s", shownHall(h), shownHall(handHall()))
 	}
 	for cut := range 40 {
 		first, told := holdFold(t, impl.HallNew(), list[:cut], 1)
@@ -1480,6 +1475,66 @@ func TestFold(t *testing.T) {
 	// Fields of an entry that do not count.
 	open := commandByHand(opening())
 	holdFold(t, handHall(), []impl.Entry{{Term: -5, Kind: impl.EntryCommand, Data: open}, {Term: math.MaxInt, Kind: impl.EntryCommand, Data: open}}, 402)
+}
+
+// Commands of each Op in bytes, written out by hand, the first of them at the index 7.
+func TestFoldOfBytes(t *testing.T) {
+	entries := []struct{ data, reply string }{
+		{"\x01\x00\x00", "open 7"},
+		{"\x02\x07\x01\x01\x01\x00\x00\x00\x00", "sent 16"},
+		{"", ""},
+		{"\x02\x07\x02\x02\x01\x01\x02\x00\x00", "sent 20"},
+		{"\x01\x00\x00", "open 11"},
+		{"\x03\x0b\x01\x0c\x05\x05\x02\x00\x00\x00\x02hi\x01\x14\x02", "kept 5"},
+		{"\x04\x0b\x02\x02\x01", "acked"},
+		{"\x05\x07\x03", "in 1"},
+		{"\x05\x07\x03", "in 1"},
+		{"\x05\x07\x09", "gap"},
+		{"\x05\x07\x01", "old"},
+		{"\x05\x09\x01", "none"},
+		{"\x02\x07\x04\x05\x02\x00\x00\x00\x02yo", "denied"},
+		{"\x02\x0b\x03\x05\x01\x00\x00\x00\x00", "sent 40"},
+		{"\x03\x0b\x04\x0b\x07\x04\x01\x00\x00\x00\x01r\x01\x05\x03", "got 7"},
+		{"\x04\x07\x05\x01\xc0\x84\x3d", "acked"},
+		{"\x06\x07\x06", ""},
+	}
+	var list []impl.Entry
+	var want []string
+	for _, e := range entries {
+		list, want = append(list, command(1, e.data)), append(want, e.reply)
+	}
+	joined := []impl.Item{{Key: 1, Id: 16}, {Key: 11, Id: 20}}
+	room := impl.Room{
+		Events: []impl.Event{placed(16, 0, create(1)), placed(20, 1, member(1, 1, impl.Joined), 16), placed(5, 2, say(2), 20), placed(40, 3, worded("", say(1)), 5), placed(7, 3, worded("r", name(1)), 5)},
+		States: [][]impl.Item{joined[:1], joined, joined, joined, {{Key: 1, Id: 16}, {Key: 3, Id: 7}, {Key: 11, Id: 20}}},
+		Good:   []bool{true, true, false, true, true},
+	}
+	then := impl.Hall{
+		Sessions: []impl.Session{{Token: 7, Last: 5, Reply: "acked"}, {Token: 11, Last: 4, Reply: "got 7"}},
+		Room:     room,
+		Outs:     []impl.Out{{Dest: 1, Acked: 3, Ids: []int{16, 20, 40}}, {Dest: 2, Acked: 1, Ids: []int{16, 20, 40}}},
+	}
+	if h, replies := holdFold(t, impl.HallNew(), list, 7); !slices.Equal(replies, want) || !equalHalls(h, then) {
+		t.Errorf("Fold makes %s, and replies %q; want %s, %q", shownHall(h), replies, shownHall(then), want)
+	}
+	// Of another Kind the same Data are nothing.
+	for _, kind := range []int{impl.EntryNone, impl.EntryConf, 0, 4, -3} {
+		others := slices.Clone(list)
+		for at := range others {
+			others[at].Kind = kind
+		}
+		wantFoldStays(t, impl.HallNew(), others, 7)
+	}
+	// A command is done at its place in the list, behind the first one's index, where that is one at which it may be.
+	open := slices.Repeat([]impl.Entry{command(1, "\x01\x00\x00")}, 4)
+	for index, want := range map[int][]string{
+		-1: {"", "", "open 1", "open 2"}, -2: {"", "", "", "open 1"}, 0: {"", "open 1", "open 2", "open 3"}, 100: {"open 100", "open 101", "open 102", "open 103"},
+		399997: {"open 399997", "open 399998", "open 399999", "open 400000"}, 399999: {"open 399999", "open 400000", "", ""}, 400000: {"open 400000", "", "", ""},
+	} {
+		if _, replies := holdFold(t, impl.HallNew(), open, index); !slices.Equal(replies, want) {
+			t.Errorf("Fold from the index %d on replies %q; want %q", index, replies, want)
+		}
+	}
 }
 
 func TestDrawnFolds(t *testing.T) {
